@@ -1,0 +1,14 @@
+"""Runs the examples of README.md."""
+
+import doctest
+import unittest
+from pathlib import Path
+
+README = Path(__file__).resolve().parent.parent / "README.md"
+
+
+class Readme(unittest.TestCase):
+    def test_examples(self):
+        found = doctest.testfile(str(README), module_relative=False, encoding="utf-8")
+        self.assertGreater(found.attempted, 10)
+        self.assertEqual(found.failed, 0)
