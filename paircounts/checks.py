@@ -1,6 +1,6 @@
-"""Checks of integers that several files need."""
+"""Checks of integers and sizes that several files need."""
 
-from paircounts.errors import InvalidNumber
+from paircounts.errors import InvalidNumber, TooLarge
 
 
 def is_integer(value):
@@ -8,7 +8,14 @@ def is_integer(value):
     return isinstance(value, int) and not isinstance(value, bool)
 
 
-def check_number(value, least, greatest):
-    """Raise InvalidNumber unless the value is an integer in this range."""
-    if not is_integer(value) or not least <= value <= greatest:
-        raise InvalidNumber(f"not an integer from {least} to {greatest}")
+def check_number(value, least, greatest=None):
+    """Raise InvalidNumber unless the value is an integer from least on, up to greatest if there is one."""
+    # The message shows no number: Python refuses to write those of some thousand digits.
+    if not is_integer(value) or value < least or (greatest is not None and value > greatest):
+        raise InvalidNumber("not an integer, or not one that is allowed here")
+
+
+def check_size(size, limit):
+    """Raise TooLarge if a number of letters or runs is greater than the limit."""
+    if size > limit:
+        raise TooLarge(limit)

@@ -48,8 +48,7 @@ class Counts:
 
     def __add__(self, other):
         """Return the counts of a row with these counts and one with the other counts behind it."""
-        if not isinstance(other, Counts):
-            raise InvalidCounts("only counts can be added to counts")
+        check_counts(other)
         between = self._many_a * other.many_b
         return Counts(self._many_a + other.many_a, self._many_b + other.many_b, self._pairs + other.pairs + between)
 
@@ -96,3 +95,14 @@ class Counts:
         """Return the runs of the greatest row with these counts."""
         # Exchanging all letters turns the order of rows of the same length around.
         return [(OTHER_LETTER[letter], number) for letter, number in (-self).least_runs()]
+
+
+def check_counts(value):
+    """Raise InvalidCounts unless the value is a Counts object."""
+    if not isinstance(value, Counts):
+        raise InvalidCounts("not a Counts object")
+
+
+def letters_in(counts):
+    """Return the number of letters of the rows with these counts."""
+    return counts.many_a + counts.many_b

@@ -4,6 +4,8 @@ from paircounts.checks import check_number
 from paircounts.errors import InvalidRow
 
 MOST_LETTERS = 200
+# Rows are counted and numbered up to so many letters.
+MOST_COUNTED = 40
 
 
 def is_row(value):

@@ -1,11 +1,9 @@
 """Double swaps, and the ways that they lead from a row to another one."""
 
-from paircounts.checks import is_integer
+from paircounts.checks import check_size, is_integer
 from paircounts.counts import Counts
-from paircounts.errors import Different, InvalidSwap, TooLarge
-from paircounts.rows import check_row, prefix_counts
-
-MOST_COUNTED = 40
+from paircounts.errors import Different, InvalidSwap
+from paircounts.rows import MOST_COUNTED, check_row, prefix_counts
 
 
 def _places_of(row, letters):
@@ -120,8 +118,7 @@ def count_between(row, other):
     counts = Counts.of(row)
     if counts != Counts.of(other):
         raise Different("the two rows have different counts")
-    if len(row) > MOST_COUNTED:
-        raise TooLarge(MOST_COUNTED)
+    check_size(len(row), MOST_COUNTED)
     found = {(0, 0): 1}
     for low, high in _prefix_bounds(row, other)[1:]:
         found = _one_letter_more(found, low, high)

@@ -5,13 +5,9 @@ import unittest
 from paircounts.counts import Counts
 from paircounts.errors import InvalidCounts, InvalidNumber, InvalidRow
 from tests.values import (
-    MANY, NO_INTEGERS, NO_ROWS, Raising, all_rows, count_pairs, exchanged, numbers_of, rows_by_counts, text_of,
+    MANY, NO_COUNTS, NO_INTEGERS, NO_ROWS, AnyValueEqual, Raising, all_rows, count_pairs, exchanged, numbers_of,
+    rows_by_counts, text_of,
 )
-
-NO_COUNTS = [
-    *[value for value in NO_INTEGERS if not isinstance(value, Counts)],
-    0, 1, -1, MANY, (2, 2, 2), [2, 2, 2], "abba",
-]
 
 
 class CountsObjects(unittest.TestCase):
@@ -138,11 +134,6 @@ class ReversedAndExchanged(unittest.TestCase):
         far = Counts(MANY, 2 * MANY, 5)
         self.assertEqual(numbers_of(~far), (MANY, 2 * MANY, 2 * MANY * MANY - 5))
         self.assertEqual(numbers_of(-far), (2 * MANY, MANY, 2 * MANY * MANY - 5))
-
-
-class AnyValueEqual:
-    def __eq__(self, other):
-        return True
 
 
 class Comparing(unittest.TestCase):

@@ -11,7 +11,11 @@ from tests.test_errors import NAMES
 PACKAGE = Path(__file__).resolve().parent.parent / "paircounts"
 
 FUNCTIONS = {
+    "numbers": {"count_rows": 1, "rows_of": 1, "nth_row": 2, "row_number": 1},
+    "patterns": {"fits": 2, "pair_range": 2, "count_fillings": 2, "nth_filling": 3},
+    "places": {"prefix_range": 2, "letters_at": 2, "certain_row": 1, "is_told": 1},
     "rows": {"is_row": 1, "prefix_counts": 1, "pairs_in": 1, "walk_rows": 2},
+    "runs": {"is_runs": 1, "runs_of": 1, "row_of": 1, "counts_of": 1, "letter_at": 2, "fewest_far": 2},
     "swaps": {
         "is_swap": 2, "swapped": 2, "swaps_of": 1, "fewest_swaps": 2, "way_between": 2, "is_way": 3, "is_between": 3,
         "count_between": 2,
@@ -72,9 +76,10 @@ class Files(unittest.TestCase):
                 if isinstance(node, ast.FunctionDef):
                     self.assertLessEqual(node.end_lineno - node.lineno + 1, 40, name)
 
-    def test_only_the_package_is_imported(self):
+    def test_nothing_but_the_package_and_isqrt_is_imported(self):
         for name, text in self.texts.items():
             for node in ast.walk(ast.parse(text)):
                 self.assertNotIsInstance(node, ast.Import, name)
-                if isinstance(node, ast.ImportFrom):
-                    self.assertTrue(node.module.startswith("paircounts."), name)
+                if isinstance(node, ast.ImportFrom) and not node.module.startswith("paircounts."):
+                    found = (node.module, [(alias.name, alias.asname) for alias in node.names])
+                    self.assertEqual(found, ("math", [("isqrt", None)]), name)

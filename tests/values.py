@@ -6,7 +6,20 @@ from paircounts.counts import Counts
 
 MANY = 10 ** 30
 
+
+class AnyValueEqual:
+    """An object that says of each value that it is equal."""
+
+    def __eq__(self, other):
+        return True
+
+
 NO_INTEGERS = [None, True, False, "", "1", "ab", b"1", [], [1], (), (1,), {}, {1: 1}, {1}, Counts(1, 1, 1), object()]
+
+NO_COUNTS = [
+    *[value for value in NO_INTEGERS if not isinstance(value, Counts)],
+    0, 1, -1, MANY, (2, 2, 2), [2, 2, 2], "abba", Counts, [Counts(1, 1, 1)],
+]
 
 NO_ROWS = [
     None, True, False, 0, 1, -1, MANY, b"", b"ab", [], ["a", "b"], (), ("a", "b"), {}, {"a": 1}, {"a"},
@@ -41,6 +54,19 @@ def numbers_of(counts):
 def text_of(runs):
     """Return the letters for which runs stand."""
     return "".join([letter * number for letter, number in runs])
+
+
+def gaussian(many_a, many_b):
+    """Return the coefficients of the Gaussian polynomial, worked out by the rule of the document."""
+    found = {}
+    for a in range(many_a + 1):
+        for b in range(many_b + 1):
+            if a == 0 or b == 0:
+                found[a, b] = [1]
+            else:
+                one, other = [0] * b + found[a - 1, b], found[a, b - 1] + [0] * a
+                found[a, b] = [x + y for x, y in zip(one, other)]
+    return found[many_a, many_b]
 
 
 def exchanged(row):
