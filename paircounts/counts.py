@@ -8,7 +8,8 @@ MOST_COPIES = 10 ** 30
 OTHER_LETTER = {"a": "b", "b": "a"}
 
 
-def _are_counts(many_a, many_b, pairs):
+def are_counts(many_a, many_b, pairs):
+    """Return whether any three values are the numbers of counts."""
     for value in (many_a, many_b, pairs):
         if not is_integer(value) or value < 0:
             return False
@@ -19,7 +20,7 @@ class Counts:
     """The counts of a row, which can be longer than the rows of this package."""
 
     def __init__(self, many_a, many_b, pairs):
-        if not _are_counts(many_a, many_b, pairs):
+        if not are_counts(many_a, many_b, pairs):
             raise InvalidCounts("not three integers from 0 on with pairs at most many_a * many_b")
         self._many_a = many_a
         self._many_b = many_b

@@ -16,17 +16,31 @@ FUNCTIONS = {
     "places": {"prefix_range": 2, "letters_at": 2, "certain_row": 1, "is_told": 1},
     "rows": {"is_row": 1, "prefix_counts": 1, "pairs_in": 1, "walk_rows": 2},
     "runs": {"is_runs": 1, "runs_of": 1, "row_of": 1, "counts_of": 1, "letter_at": 2, "fewest_far": 2},
+    "strands": {
+        "is_wide_row": 1, "strands_of": 1, "wide_counts": 1, "are_strands": 1, "least_row": 1, "fewest_free": 2,
+        "fewest_strand": 2, "count_classes": 1,
+    },
     "swaps": {
         "is_swap": 2, "swapped": 2, "swaps_of": 1, "fewest_swaps": 2, "way_between": 2, "is_way": 3, "is_between": 3,
         "count_between": 2,
     },
+    "texts": {
+        "show_runs": 1, "show_counts": 1, "show_swap": 1, "read_runs": 1, "read_counts": 1, "read_swap": 1,
+    },
 }
 CLASSES = {
     "errors": {"PairError": [], **{name: [] for name in NAMES}},
+    "console": {"Console": ["__init__", "execute"]},
     "counts": {
         "Counts": [
             "of", "many_a", "many_b", "pairs", "__add__", "__mul__", "__invert__", "__neg__", "__contains__", "__eq__",
             "least_runs", "greatest_runs",
+        ],
+    },
+    "live": {
+        "LiveRow": [
+            "__init__", "apply", "tried", "put", "cut", "turn", "exchange", "undo", "row", "counts", "changes", "twin",
+            "__len__", "__eq__",
         ],
     },
 }
